@@ -1,0 +1,1 @@
+"""Heaps of several kinds that join, lower and take out, their work paid ahead."""

@@ -1,0 +1,89 @@
+"""Those rules of LANGUAGE.md that a short look at the files can show; it does not show all of them."""
+
+import ast
+import builtins
+import pathlib
+import re
+import unittest
+
+PACKAGE = pathlib.Path(__file__).resolve().parent.parent / "heapwright"
+
+BUILTINS = """len range enumerate zip min max sum abs sorted reversed int str bool bytes list tuple dict set
+frozenset isinstance ord repr any all divmod Exception ValueError TypeError KeyError IndexError LookupError
+ZeroDivisionError ArithmeticError OverflowError RuntimeError NotImplementedError AttributeError StopIteration
+NotImplemented super property staticmethod classmethod""".split()
+
+BARRED_WORDS = """type typing typing_extensions enum Enum IntEnum StrEnum Flag IntFlag Generic Protocol ABC
+ABCMeta namedtuple NamedTuple TypedDict TYPE_CHECKING abstractmethod""".split()
+
+BARRED_NODES = (ast.Global, ast.Import, ast.AsyncFunctionDef, ast.AsyncFor, ast.AsyncWith, ast.Await, ast.Div)
+
+
+def files():
+    return sorted(PACKAGE.rglob("*.py"))
+
+
+def nodes():
+    """Each node of each file, with a label that says where it stands."""
+    for path in files():
+        for node in ast.walk(ast.parse(path.read_text(encoding="ascii"))):
+            yield f"{path.name}:{getattr(node, 'lineno', 0)}", node
+
+
+def name_of(node):
+    """The name that a node uses or defines, or an empty text."""
+    for field in ("id", "arg", "attr", "name"):
+        if isinstance(getattr(node, field, None), str):
+            return getattr(node, field)
+    return ""
+
+
+class LanguageTest(unittest.TestCase):
+    def test_the_folder_holds_only_plainly_named_files(self):
+        self.assertIn(PACKAGE / "__init__.py", files())
+        for path in PACKAGE.rglob("*"):
+            if "__pycache__" not in path.parts:
+                self.assertRegex(path.name, r"^(__init__|[a-z][a-z0-9_]*)\.py$")
+
+    def test_sizes_and_signs(self):
+        for path in files():
+            with self.subTest(path.name):
+                text = path.read_bytes().decode("ascii")
+                self.assertRegex(text, r"^[\n -~]*$")
+                self.assertLessEqual(len(text.splitlines()), 400)
+                self.assertLessEqual(max(map(len, text.splitlines()), default=0), 120)
+        for where, node in nodes():
+            if isinstance(node, ast.FunctionDef):
+                self.assertLessEqual(node.end_lineno - node.lineno + 1, 40, where)
+
+    def test_barred_words(self):
+        for path in files():
+            with self.subTest(path.name):
+                words = re.findall(r"\w+", path.read_text())
+                self.assertEqual([w for w in words if w in BARRED_WORDS], [])
+                self.assertEqual([w for w in words if re.search("dataclass|overload|contextmanager", w)], [])
+
+    def test_imports(self):
+        for where, node in nodes():
+            if isinstance(node, ast.ImportFrom):
+                self.assertEqual((node.level, node.col_offset), (0, 0), where)
+                self.assertRegex(node.module, r"^(heapwright\.[a-z0-9_]+|__future__)$", where)
+                self.assertNotIn("*", [name.name for name in node.names], where)
+
+    def test_barred_statements_and_values(self):
+        for where, node in nodes():
+            self.assertNotIsInstance(node, BARRED_NODES, where)
+            if isinstance(node, ast.Constant):
+                self.assertNotIsInstance(node.value, (float, complex), where)
+                self.assertNotIn("%", node.value if isinstance(node.value, str) else "", where)
+
+    def test_names(self):
+        for where, node in nodes():
+            name = name_of(node)
+            self.assertFalse(name.startswith("_") and not re.match("__[a-z]+__$", name), where)
+            if isinstance(node, (ast.Name, ast.arg)):
+                self.assertFalse(hasattr(builtins, name) and name not in BUILTINS, where)
+
+
+if __name__ == "__main__":
+    unittest.main()
