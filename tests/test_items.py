@@ -5,10 +5,10 @@ import inspect
 import unittest
 
 from heapwright.items import KINDS, is_item, is_key
+from tests.things import FORTY_FIGURES, NO_NUMBERS, deep_things, within
 
 BOUND = 10 ** 12
 LAST_TICKET = 10 ** 6
-FORTY_FIGURES = 10 ** 40 - 1
 
 KEYS = (-BOUND, 1 - BOUND, -7, -1, 0, 1, 2, 7, 999, LAST_TICKET + 1, BOUND - 1, BOUND)
 BEYOND_KEYS = (BOUND + 1, -BOUND - 1, 2 * BOUND, -2 * BOUND, 2 ** 64, -2 ** 64,
@@ -16,31 +16,6 @@ BEYOND_KEYS = (BOUND + 1, -BOUND - 1, 2 * BOUND, -2 * BOUND, 2 ** 64, -2 ** 64,
 TICKETS = (0, 1, 2, 500, LAST_TICKET - 1, LAST_TICKET)
 BEYOND_TICKETS = (-1, -2, LAST_TICKET + 1, LAST_TICKET + 2, -LAST_TICKET, BOUND, -BOUND,
                   FORTY_FIGURES, -FORTY_FIGURES)
-
-
-def within(depth, maker, core):
-    """Core, depth times put into a list or tuple that maker makes."""
-    for turn in range(depth):
-        core = maker(core)
-    return core
-
-
-def deep_things():
-    makers = (
-        lambda x: [x], lambda x: (x,), lambda x: (x, 0), lambda x: (0, x), lambda x: [x, 0],
-        lambda x: [0, x], lambda x: (x, x, 0), lambda x: (x, x),
-    )
-    # The last two double with each depth.
-    for depth in (1, 2, 3, 20, 39, 40):
-        for maker in makers if depth < 10 else makers[:-2]:
-            for core in ((), [], 5, -5, True, False, None, "a", (1, 2), FORTY_FIGURES):
-                yield within(depth, maker, core)
-
-
-NO_NUMBERS = (
-    True, False, None, "", "0", "1", "-1", "a", "abc", " ~", "1" * 400,
-    [], [0], [1, 2], (), (0,), (1, "a"), (None, None), [None], [[]], ((),), ([],), [()],
-)
 
 
 class Told(unittest.TestCase):

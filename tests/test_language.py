@@ -16,6 +16,10 @@ NotImplemented super property staticmethod classmethod""".split()
 BARRED_WORDS = """type typing typing_extensions enum Enum IntEnum StrEnum Flag IntFlag Generic Protocol ABC
 ABCMeta namedtuple NamedTuple TypedDict TYPE_CHECKING abstractmethod""".split()
 
+METHODS = """append clear copy count endswith extend find get index insert isalnum isalpha isdigit islower isspace
+isupper items join keys ljust lower lstrip partition pop remove replace reverse rfind rjust rpartition rsplit rstrip
+setdefault split splitlines startswith strip update upper values zfill bit_length add discard sort""".split()
+
 BARRED_NODES = (ast.Global, ast.Import, ast.AsyncFunctionDef, ast.AsyncFor, ast.AsyncWith, ast.Await, ast.Div)
 
 
@@ -69,6 +73,43 @@ class LanguageTest(unittest.TestCase):
                 self.assertEqual((node.level, node.col_offset), (0, 0), where)
                 self.assertRegex(node.module, r"^(heapwright\.[a-z0-9_]+|__future__)$", where)
                 self.assertNotIn("*", [name.name for name in node.names], where)
+
+    def test_imports_name_the_very_file_that_defines_the_name(self):
+        for where, node in nodes():
+            if isinstance(node, ast.ImportFrom) and node.module != "__future__":
+                text = (PACKAGE / (node.module.split(".")[1] + ".py")).read_text()
+                for name in node.names:
+                    self.assertRegex(text, rf"(?m)^((def|class) {name.name}\b|{name.name} = )", where)
+
+    def test_no_two_files_import_from_each_other(self):
+        below = {path.stem: re.findall(r"(?m)^from heapwright\.(\w+) import", path.read_text()) for path in files()}
+        while below:
+            ends = [name for name in below if not any(other in below for other in below[name])]
+            self.assertNotEqual(ends, [], below)
+            below = {name: below[name] for name in below if name not in ends}
+
+    def test_is_and_powers(self):
+        for where, node in nodes():
+            if isinstance(node, ast.Compare):
+                for sign, other in zip(node.ops, node.comparators):
+                    if isinstance(sign, (ast.Is, ast.IsNot)):
+                        self.assertIn(repr(getattr(other, "value", other)), ("None", "True", "False"), where)
+            if isinstance(node, ast.BinOp) and isinstance(node.op, ast.Pow):
+                self.assertIn(getattr(node.right, "value", None), range(65), where)
+
+    def test_methods(self):
+        own = {method.name for where, node in nodes() if isinstance(node, ast.ClassDef)
+               for method in node.body if isinstance(method, ast.FunctionDef)}
+        for where, node in nodes():
+            if isinstance(node, ast.Call) and isinstance(node.func, ast.Attribute):
+                self.assertIn(node.func.attr, own.union(METHODS), where)
+
+    def test_no_function_calls_itself(self):
+        for path in files():
+            for node in ast.parse(path.read_text()).body:
+                if isinstance(node, ast.FunctionDef):
+                    called = [name_of(part.func) for part in ast.walk(node) if isinstance(part, ast.Call)]
+                    self.assertNotIn(node.name, called, path.name)
 
     def test_barred_statements_and_values(self):
         for where, node in nodes():
