@@ -1,5 +1,7 @@
 """The kinds of heaps, and what a key, a ticket and an item are."""
 
+from heapwright.errors import Twice
+
 KINDS = ("left", "skew", "pair", "count", "cut")
 
 KEY_BOUND = 10 ** 12
@@ -25,3 +27,11 @@ def is_ticket(thing):
 def is_item(thing):
     """Tell whether thing is an item: a tuple (key, ticket)."""
     return isinstance(thing, tuple) and len(thing) == 2 and is_key(thing[0]) and is_ticket(thing[1])
+
+
+def refuse_twice(tickets, others):
+    """Raise Twice where a ticket is in both lists."""
+    there = set(tickets)
+    for ticket in others:
+        if ticket in there:
+            raise Twice("a ticket is there already")

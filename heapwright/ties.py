@@ -1,5 +1,6 @@
 """Trees with children: how those of pair, count and cut are tied, gathered, joined, raised and cut."""
 
+from heapwright.ranks import joined_by_rank
 from heapwright.shapes import has_to_move, with_item
 
 
@@ -101,22 +102,7 @@ def pair_dropped(spot):
 
 def count_joined(one, other):
     """Tell what comes of it where two shapes of count are joined, and the work."""
-    trees = []
-    carried = []
-    work = 0
-    rank = 0
-    most = max([len(tree[1]) for tree in one + other], default=-1)
-    while rank <= most or carried:
-        # Those of the shapes stand ahead of the carried one: of three it is the one that stays.
-        here = [tree for tree in one + other if len(tree[1]) == rank] + carried
-        carried = []
-        if len(here) > 1:
-            carried = [tied("count", here[0], here[1])]
-            here = here[2:]
-            work += 1
-        trees.extend(here)
-        rank += 1
-    return tuple(trees), work
+    return joined_by_rank(one, other, lambda tree: len(tree[1]), lambda first, second: tied("count", first, second))
 
 
 def count_without(shape, place):

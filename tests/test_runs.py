@@ -1,52 +1,18 @@
-"""Points 3 to 11 of DOC.md: after many deeds on trees, each shape is one of its kind and has the right items."""
+"""Points 3, 6 and 13 of DOC.md: rows of drawn deeds of each kind beside a plain list, and their credits."""
 
 import random
 import unittest
 
+from heapwright.deeds import dropped, joined, lowered, put, taken
 from heapwright.items import KINDS
-from heapwright.shapes import is_shape, items_of, least, lone, spot_of
-from heapwright.sides import met, side_dropped, side_lowered
-from heapwright.ties import (
-    count_dropped, count_joined, count_lowered, count_without, cut_dropped, cut_lowered, cut_without, gathered,
-    least_place, pair_dropped, pair_lowered, paired)
+from heapwright.paid import credit, held
+from heapwright.shapes import is_shape, items_of, least
 
-
-def joined(kind, one, other):
-    if kind in ("left", "skew"):
-        return met(kind, one, other)
-    if kind == "cut":
-        return one + other, 0
-    return (paired if kind == "pair" else count_joined)(one, other)
-
-
-def taken(kind, shape):
-    if kind in ("left", "skew"):
-        return met(kind, shape[1], shape[2])
-    if kind == "pair":
-        return gathered(shape[1])
-    return (count_without if kind == "count" else cut_without)(shape, least_place(shape))
-
-
-def lowered(kind, shape, item):
-    spot = spot_of(kind, shape, item[1])
-    if kind in ("left", "skew"):
-        return side_lowered(kind, spot, item)
-    if kind == "pair":
-        return pair_lowered(spot, item)
-    return (count_lowered if kind == "count" else cut_lowered)(shape, spot, item)
-
-
-def dropped(kind, shape, ticket):
-    spot = spot_of(kind, shape, ticket)
-    if kind in ("left", "skew"):
-        return side_dropped(kind, spot)
-    if kind == "pair":
-        return pair_dropped(spot)
-    return (count_dropped if kind == "count" else cut_dropped)(shape, spot)
+PAID = [kind for kind in KINDS if kind != "pair"]
 
 
 class Run:
-    """A shape beside the plain items that it should have, by their tickets."""
+    """A shape beside the plain items that it should have, by their tickets, and all work and credits so far."""
 
     def __init__(self, kind, seed):
         self.kind = kind
@@ -55,45 +21,65 @@ class Run:
         self.shape = ()
         self.plain = {}
         self.tickets = iter(range(10 ** 6))
+        self.work = self.credits = 0
 
     def fresh(self):
-        return (self.chance.randint(-self.span, self.span), next(self.tickets))
+        item = (self.chance.randint(-self.span, self.span), next(self.tickets))
+        self.plain[item[1]] = item
+        return item
 
     def some_ticket(self):
         return self.chance.choice(sorted(self.plain))
 
+    def worked(self, deed, answer, other=0, *, m=0):
+        """Take a deed's answer in; other is what the second shape of a join held."""
+        shape, work = answer
+        self.work += work
+        if self.kind != "pair":
+            paid = credit(self.kind, deed, self.size, m=m)
+            more = held(self.kind, shape) - held(self.kind, self.shape) - other
+            assert work + more <= paid, (self.kind, deed, self.shape, work, more, paid)
+            self.credits += paid
+        self.shape = shape
+
     def put(self):
-        item = self.fresh()
-        self.plain[item[1]] = item
-        return joined(self.kind, self.shape, lone(self.kind, item))
+        self.worked("put", put(self.kind, self.shape, self.fresh()))
 
     def join(self):
-        other = ()
-        for turn in range(self.chance.randint(0, 9)):
-            item = self.fresh()
-            self.plain[item[1]] = item
-            other, work = joined(self.kind, lone(self.kind, item), other)
-        return joined(self.kind, self.shape, other)
+        """Join with a shape that was put together, and lessened, by deeds which count as well."""
+        mine, size = self.shape, self.size
+        self.shape = ()
+        for self.size in range(self.chance.randint(0, 9)):
+            self.put()
+        m = len(items_of(self.kind, self.shape))
+        if m > 3:
+            self.size = m
+            self.take()
+            m -= 1
+        other, self.shape, self.size = self.shape, mine, size
+        self.worked("join", joined(self.kind, self.shape, other), held(self.kind, other), m=m)
 
     def take(self):
-        del self.plain[min(self.plain.values())[1]]
-        return taken(self.kind, self.shape)
+        item, *answer = taken(self.kind, self.shape)
+        assert item == least(self.kind, self.shape)
+        del self.plain[item[1]]
+        self.worked("take", answer)
 
     def lower(self):
         ticket = self.some_ticket()
-        item = (self.plain[ticket][0] - self.chance.choice((0, 1, self.span)), ticket)
-        self.plain[ticket] = item
-        return lowered(self.kind, self.shape, item)
+        key = self.plain[ticket][0] - self.chance.choice((0, 1, self.span))
+        self.plain[ticket] = (key, ticket)
+        self.worked("lower", lowered(self.kind, self.shape, ticket, key))
 
     def drop(self):
         ticket = self.some_ticket()
         del self.plain[ticket]
-        return dropped(self.kind, self.shape, ticket)
+        self.worked("drop", dropped(self.kind, self.shape, ticket))
 
     def step(self):
+        self.size = len(self.plain)
         deeds = (self.put, self.put, self.join, self.take, self.lower, self.lower, self.drop)
-        self.shape, work = self.chance.choice(deeds if self.plain else deeds[:3])()
-        return work
+        self.chance.choice(deeds if self.plain else deeds[:3])()
 
 
 class RunsTest(unittest.TestCase):
@@ -102,24 +88,40 @@ class RunsTest(unittest.TestCase):
             for seed in range(12):
                 run = Run(kind, seed)
                 for turn in range(60):
-                    self.assertGreaterEqual(run.step(), 0)
+                    run.step()
                     with self.subTest(kind, seed=seed, turn=turn):
                         self.assertIs(is_shape(kind, run.shape), True)
                         self.assertEqual(items_of(kind, run.shape), sorted(run.plain.values()))
                         if run.plain:
                             self.assertEqual(least(kind, run.shape), min(run.plain.values()))
+                if kind in PAID:
+                    self.assertLessEqual(run.work + held(kind, run.shape), run.credits, kind)
 
     def test_what_is_taken_out_comes_rising(self):
         for kind in KINDS:
             run = Run(kind, "rising")
-            for turn in range(150):
-                run.shape = run.put()[0]
+            for run.size in range(150):
+                run.put()
             told = []
             while run.shape != ():
                 told.append(least(kind, run.shape))
-                run.shape = run.take()[0]
+                run.size = len(run.plain)
+                run.take()
             self.assertEqual(len(told), 150)
             self.assertEqual(told, sorted(told))
+
+    def test_many_are_put_in_and_taken_or_lowered_or_dropped_again(self):
+        for kind in PAID:
+            for seed in range(3):
+                run = Run(kind, seed)
+                for run.size in range(120):
+                    run.put()
+                for turn in range(120):
+                    run.size = len(run.plain)
+                    run.chance.choice((run.take, run.lower, run.lower, run.drop))()
+                    self.assertIs(is_shape(kind, run.shape), True)
+                self.assertEqual(items_of(kind, run.shape), sorted(run.plain.values()))
+                self.assertLessEqual(run.work + held(kind, run.shape), run.credits, kind)
 
 
 if __name__ == "__main__":
