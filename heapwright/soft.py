@@ -88,19 +88,29 @@ def soft_tied(one, other, slack):
 
 def soft_tickets(shape):
     """Tell the tickets of a soft shape, in no promised order."""
-    return [item[1] for item, key in soft_items(shape)]
+    return [item[1] for tree, above in soft_walk(shape) for item in tree[2]]
+
+
+def soft_lone(item):
+    """Tell the soft shape of one item."""
+    return ((0, item[0], (item,), (), ()),)
+
+
+def soft_met(one, other, slack):
+    """Tell the soft shape that comes of two, whatever their tickets are."""
+    trees, ties = joined_by_rank(one, other, lambda tree: tree[0], lambda x, y: soft_tied(x, y, slack))
+    return trees
 
 
 def soft_put(shape, item, *, slack=4):
     """Tell the soft shape into which an item is put; raise Twice where its ticket is there."""
-    return soft_joined(shape, ((0, item[0], (item,), (), ()),), slack=slack)
+    return soft_joined(shape, soft_lone(item), slack=slack)
 
 
 def soft_joined(one, other, *, slack=4):
     """Tell the soft shape that comes of two; raise Twice where a ticket is in both."""
     refuse_twice(soft_tickets(one), soft_tickets(other))
-    trees, ties = joined_by_rank(one, other, lambda tree: tree[0], lambda x, y: soft_tied(x, y, slack))
-    return trees
+    return soft_met(one, other, slack)
 
 
 def soft_taken(shape, *, slack=4):

@@ -23,6 +23,17 @@ FUNCTIONS = {
         "soft_taken": ["shape", "*slack=4"], "soft_items": ["shape"], "slipped": ["shape"],
         "may_slip": ["n", "*slack=4"],
     },
+    "heapwright.picking": {"picked": ["items", "number"]},
+    "heapwright.webs": {
+        "is_web": ["thing"], "roads": ["web", "start", "*kind='cut'"],
+        "is_paper": ["web", "start", "lengths", "order"], "cheapest": ["web", "*kind='pair'"],
+    },
+    "heapwright.codes": {"codes": ["counts", "*kind='left'"]},
+}
+METHODS = {
+    "make": ["name", "kind"], "put": ["name", "key"], "join": ["name", "other"], "take": ["name"],
+    "lower": ["ticket", "key"], "drop": ["ticket"], "sink": ["name"], "names": [], "kind": ["name"],
+    "shape": ["name"], "items": ["name"], "least": ["name"], "home": ["ticket"], "ledger": [], "__len__": [],
 }
 VALUES = {"heapwright.items": ["KINDS"]}
 CLASSES = {
@@ -30,6 +41,7 @@ CLASSES = {
         "HeapError", "Empty", "Twice", "NoTicket", "Higher", "NoCredit", "NoPlace", "NoKind", "NoName", "Taken",
         "TooMany", "NoHeap", "NoKey", "Itself", "Unlike",
     ],
+    "heapwright.yards": ["Yard"],
 }
 
 
@@ -55,11 +67,21 @@ class InterfaceTest(unittest.TestCase):
             for name in names:
                 with self.subTest(module, name=name):
                     self.assertTrue(hasattr(importlib.import_module(module), name))
-        for name in CLASSES["heapwright.errors"]:
-            self.assertTrue(inspect.isclass(getattr(importlib.import_module("heapwright.errors"), name)))
+        for module, names in CLASSES.items():
+            for name in names:
+                self.assertTrue(inspect.isclass(getattr(importlib.import_module(module), name)))
 
-    def test_the_modules_of_trees_are_importable(self):
-        for module in ("heapwright.ranks", "heapwright.sides", "heapwright.ties"):
+    def test_the_methods_of_a_yard_stand_in_its_own_body(self):
+        yard = importlib.import_module("heapwright.yards").Yard
+        for name, arguments in METHODS.items():
+            with self.subTest(name):
+                self.assertIn(name, vars(yard))
+                told = [argument(parameter) for parameter in inspect.signature(vars(yard)[name]).parameters.values()]
+                self.assertEqual(told, ["self"] + arguments)
+        self.assertEqual(list(inspect.signature(yard).parameters), [])
+
+    def test_the_other_modules_are_importable(self):
+        for module in ("heapwright.ranks", "heapwright.sides", "heapwright.ties", "heapwright.tallies"):
             self.assertTrue(inspect.ismodule(importlib.import_module(module)))
 
 
