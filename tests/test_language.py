@@ -104,6 +104,38 @@ class LanguageTest(unittest.TestCase):
             if isinstance(node, ast.Call) and isinstance(node.func, ast.Attribute):
                 self.assertIn(node.func.attr, own.union(METHODS), where)
 
+    def test_no_local_name_is_that_of_an_import_a_class_or_a_builtin(self):
+        for path in files():
+            tree = ast.parse(path.read_text())
+            barred = {name.asname or name.name for node in tree.body if isinstance(node, ast.ImportFrom)
+                      for name in node.names}
+            barred |= {node.name for node in tree.body if isinstance(node, ast.ClassDef)}
+            for node in ast.walk(tree):
+                stored = isinstance(node, ast.Name) and isinstance(node.ctx, (ast.Store, ast.Del))
+                if stored or isinstance(node, ast.arg):
+                    self.assertNotIn(name_of(node), barred, path.name)
+                    self.assertFalse(hasattr(builtins, name_of(node)), f"{path.name} {name_of(node)}")
+
+    def test_no_name_is_a_method_and_an_attribute(self):
+        classes = [node for where, node in nodes() if isinstance(node, ast.ClassDef)]
+        methods = {part.name for node in classes for part in node.body if isinstance(part, ast.FunctionDef)}
+        stored = {node.attr for where, node in nodes()
+                  if isinstance(node, ast.Attribute) and isinstance(node.ctx, ast.Store)}
+        read = {node.attr for where, node in nodes() if isinstance(node, ast.Attribute)}
+        self.assertEqual(methods & stored, set())
+        self.assertEqual(read - methods - set(METHODS), stored)
+
+    def test_what_is_kept_in_sets_is_kept_in_a_name_of_its_own(self):
+        for where, node in nodes():
+            if isinstance(node, ast.FunctionDef):
+                kept = [part.targets[0].id for part in ast.walk(node) if isinstance(part, ast.Assign)
+                        and (isinstance(part.value, (ast.Set, ast.SetComp))
+                             or isinstance(part.value, ast.Call) and name_of(part.value.func) == "set")]
+                stored = [part.id for part in ast.walk(node)
+                          if isinstance(part, ast.Name) and isinstance(part.ctx, ast.Store)]
+                for name in kept:
+                    self.assertEqual(stored.count(name), 1, where)
+
     def test_no_function_calls_itself(self):
         for path in files():
             for node in ast.parse(path.read_text()).body:
